@@ -1,0 +1,1 @@
+"""Replacing credentials without a gap across services that learn late."""
