@@ -1,6 +1,6 @@
 """Ranges of moments that follow each other."""
 
-from gaplesskeys.checks import BOUND, is_bounded, is_integer
+from gaplesskeys.checks import BOUND, is_bounded, is_integer, is_written_integer
 from gaplesskeys.errors import InvalidMoment, InvalidRange, ParseError
 
 
@@ -18,15 +18,6 @@ def _checked_shift(value):
     if not is_bounded(value):
         raise InvalidMoment(value)
     return value
-
-
-def _is_written_integer(word):
-    """Whether a word is an integer of at most sixty digits as str writes it."""
-    digits = word.removeprefix("-")
-    # The length comes ahead of int, which rejects very long words itself.
-    if not digits.isascii() or not digits.isdigit() or len(digits) > 60:
-        return False
-    return str(int(word)) == word
 
 
 def _between(low, high):
@@ -66,13 +57,13 @@ class Range:
         if text == "empty":
             return cls.empty()
         words = text.split(" ")
-        if len(words) != 2 or not _is_written_integer(words[0]):
+        if len(words) != 2 or not is_written_integer(words[0]):
             raise ParseError(0)
         first = int(words[0])
         if words[1] == "-":
             return cls(first, None)
         # An empty range is not written by its moments.
-        if not _is_written_integer(words[1]) or int(words[1]) < first:
+        if not is_written_integer(words[1]) or int(words[1]) < first:
             raise ParseError(0)
         return cls(first, int(words[1]))
 
