@@ -34,6 +34,11 @@ def is_index(value, many):
     return is_between(value, 0, many - 1)
 
 
+def is_tuple_of(value, many):
+    """Whether a value is a tuple of so many items."""
+    return isinstance(value, tuple) and len(value) == many
+
+
 def is_short_tuple(value, most):
     """Whether a value is a tuple of at most so many items."""
     return isinstance(value, tuple) and len(value) <= most

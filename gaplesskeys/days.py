@@ -1,6 +1,6 @@
 """Until when keys are accepted: last days and lifetimes."""
 
-from gaplesskeys.checks import check_roles, is_integer, is_moment, is_word
+from gaplesskeys.checks import check_roles, is_integer, is_moment, is_tuple_of, is_word
 from gaplesskeys.errors import InvalidDays, InvalidKeys, UnknownName
 from gaplesskeys.holding import held_range
 from gaplesskeys.ranges import Range
@@ -14,7 +14,7 @@ def _check_days(plan, fleet, days):
         raise InvalidDays(days)
     roles = plan.contents_of(0).roles
     for place in days:
-        if not isinstance(place, tuple) or len(place) != 2 or not is_moment(days[place]):
+        if not is_tuple_of(place, 2) or not is_moment(days[place]):
             raise InvalidDays(days)
         if place[0] not in roles or not is_word(place[1]):
             raise InvalidDays(days)

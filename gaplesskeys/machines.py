@@ -1,15 +1,13 @@
 """Runs: machines that begin and pull, and the credentials that they show."""
 
-from gaplesskeys.checks import check_roles, is_index, is_moment, is_short_tuple
+from gaplesskeys.checks import check_roles, is_index, is_moment, is_short_tuple, is_tuple_of
 from gaplesskeys.errors import InvalidMoment, InvalidRun
 from gaplesskeys.playing import MOST_ITEMS, answer, played
 
 
 def _has_form(run):
     """Whether a value is a tuple of two tuples that are not too long."""
-    if not is_short_tuple(run, 2) or len(run) < 2:
-        return False
-    return all([is_short_tuple(part, MOST_ITEMS) for part in run])
+    return is_tuple_of(run, 2) and all([is_short_tuple(part, MOST_ITEMS) for part in run])
 
 
 class World:

@@ -1,6 +1,6 @@
 """Plans: editions with the moments at which they are published."""
 
-from gaplesskeys.checks import is_index, is_moment
+from gaplesskeys.checks import is_index, is_moment, is_tuple_of
 from gaplesskeys.contents import Contents
 from gaplesskeys.errors import InvalidMoment, InvalidPlan, LimitExceeded, UnknownEdition
 
@@ -9,9 +9,7 @@ _MOST_EDITIONS = 7
 
 def _is_edition(value):
     """Whether a value is a tuple (moment, contents)."""
-    if not isinstance(value, tuple) or len(value) != 2:
-        return False
-    return is_moment(value[0]) and isinstance(value[1], Contents)
+    return is_tuple_of(value, 2) and is_moment(value[0]) and isinstance(value[1], Contents)
 
 
 def _first_wrong(editions):

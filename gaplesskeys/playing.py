@@ -3,7 +3,7 @@
 Each value may be any value here; what is wrong is answered by None.
 """
 
-from gaplesskeys.checks import is_index, is_moment, is_short_tuple
+from gaplesskeys.checks import is_index, is_moment, is_short_tuple, is_tuple_of
 from gaplesskeys.histories import History
 
 # The most machines, pulls of a machine, and shown credentials.
@@ -16,7 +16,7 @@ def _are_pulls(pulls, begun, gap):
         return False
     ahead = begun
     for pull in pulls:
-        if not is_short_tuple(pull, 2) or len(pull) < 2 or not is_moment(pull[0]):
+        if not is_tuple_of(pull, 2) or not is_moment(pull[0]):
             return False
         if not ahead < pull[0] <= ahead + gap:
             return False
@@ -63,7 +63,7 @@ def _begun_history(plan, name, kind, histories, begun, origin):
 
 def played(plan, fleet, machine, histories):
     """The history of a machine behind those with smaller numbers."""
-    if not is_short_tuple(machine, 4) or len(machine) < 4:
+    if not is_tuple_of(machine, 4):
         return None
     name, begun, origin, pulls = machine
     if name not in fleet or not is_moment(begun):
@@ -91,7 +91,7 @@ def _edition_of(histories, number, name, moment):
 
 def answer(plan, fleet, credential, histories):
     """Whether a shown credential is accepted."""
-    if not is_short_tuple(credential, 5) or len(credential) < 5:
+    if not is_tuple_of(credential, 5):
         return None
     call, client, made, server, moment = credential
     calls = fleet.calls()
