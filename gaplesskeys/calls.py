@@ -1,10 +1,12 @@
 """Which editions meet in calls, and which calls can be refused."""
 
 from gaplesskeys.checks import check_roles, is_index
+from gaplesskeys.editions import contents_in
 from gaplesskeys.errors import InvalidCall
+from gaplesskeys.faults import all_meetings, common_span, meeting_pairs, refused
 from gaplesskeys.holding import lockouts
 from gaplesskeys.showing import holding_machines
-from gaplesskeys.timing import held_span, shown_span
+from gaplesskeys.timing import held_span
 
 
 def _checked_call(plan, fleet, call):
@@ -16,36 +18,16 @@ def _checked_call(plan, fleet, call):
     return calls[call]
 
 
-def _common_span(plan, fleet, call, made_in, shown_to):
-    """When clients that held one edition can show their credentials to servers that hold another."""
-    _, client, server, life = call
-    moments = plan.moments()
-    shown = shown_span(moments, made_in, fleet.lateness(client), life)
-    return shown & held_span(moments, shown_to, fleet.lateness(server))
-
-
-def _meeting_pairs(plan, fleet, call):
-    """The pairs of editions that meet for a call, sorted."""
-    found = []
-    for made_in in range(len(plan)):
-        for shown_to in range(len(plan)):
-            if _common_span(plan, fleet, call, made_in, shown_to):
-                found.append((made_in, shown_to))
-    return found
-
-
 def meetings(plan, fleet, call):
     """The pairs of editions of a client and a server that meet for a call, sorted."""
-    return _meeting_pairs(plan, fleet, _checked_call(plan, fleet, call))
+    return meeting_pairs(fleet, _checked_call(plan, fleet, call), plan.moments())
 
 
 def refusals(plan, fleet):
     """Yields each triple of a call, a client's edition and a server's one that refuses it, sorted."""
     check_roles(plan.contents_of(0), fleet)
-    for number, call in enumerate(fleet.calls()):
-        for made_in, shown_to in _meeting_pairs(plan, fleet, call):
-            if plan.contents_of(made_in).used(call[0]) not in plan.contents_of(shown_to).accepted(call[0]):
-                yield number, made_in, shown_to
+    for found in refused(fleet, contents_in(plan), all_meetings(fleet, plan.moments())):
+        yield found
 
 
 def is_faultless(plan, fleet):
@@ -59,7 +41,7 @@ def meeting_run(plan, fleet, call, early, late):
     # These raise if there are no such editions.
     plan.moment_of(early)
     plan.moment_of(late)
-    moment = _common_span(plan, fleet, found, early, late).first
+    moment = common_span(fleet, found, plan.moments(), early, late).first
     if moment is None:
         return None
     _, client, server, _ = found

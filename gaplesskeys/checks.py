@@ -1,6 +1,6 @@
 """Checks of values that callers give. Each one takes any value."""
 
-from gaplesskeys.errors import UnknownName
+from gaplesskeys.errors import InvalidDays, UnknownName
 
 # The least integer of more than sixty digits.
 BOUND = 10 ** 60
@@ -65,6 +65,11 @@ def is_key_list(value):
     return isinstance(value, list) and all([is_word(key) for key in value])
 
 
+def is_different_key_list(value):
+    """Whether a value is a list of different keys."""
+    return is_key_list(value) and len(set(value)) == len(value)
+
+
 def are_different_keys(value, most):
     """Whether a value is a list or a tuple of at most so many different keys."""
     if not isinstance(value, (list, tuple)) or len(value) > most:
@@ -77,3 +82,14 @@ def check_roles(contents, fleet):
     for role, _, _, _ in fleet.calls():
         if role not in contents.roles:
             raise UnknownName(role)
+
+
+def check_days(days, roles):
+    """Raises InvalidDays if a value is not a dict from (role, key) to moments, or to lifetimes."""
+    if not isinstance(days, dict):
+        raise InvalidDays(days)
+    for place in days:
+        if not is_tuple_of(place, 2) or not is_moment(days[place]):
+            raise InvalidDays(days)
+        if place[0] not in roles or not is_word(place[1]):
+            raise InvalidDays(days)

@@ -1,40 +1,25 @@
 """Until when keys are accepted: last days and lifetimes."""
 
-from gaplesskeys.checks import check_roles, is_integer, is_moment, is_tuple_of, is_word
-from gaplesskeys.errors import InvalidDays, InvalidKeys, UnknownName
+from gaplesskeys.checks import check_days, check_roles, is_integer, is_word
+from gaplesskeys.editions import contents_in
+from gaplesskeys.errors import InvalidKeys, UnknownName
 from gaplesskeys.holding import held_range
 from gaplesskeys.ranges import Range
+from gaplesskeys.serving import accepting, server_kinds
 from gaplesskeys.showing import holding_machines
 
 
-def _check_days(plan, fleet, days):
+def _check(plan, fleet, days):
     """Raises an error if days, or lifetimes, are none of the plan."""
     check_roles(plan.contents_of(0), fleet)
-    if not isinstance(days, dict):
-        raise InvalidDays(days)
-    roles = plan.contents_of(0).roles
-    for place in days:
-        if not is_tuple_of(place, 2) or not is_moment(days[place]):
-            raise InvalidDays(days)
-        if place[0] not in roles or not is_word(place[1]):
-            raise InvalidDays(days)
-
-
-def _server_kinds(fleet, role):
-    """The server kinds of a role, in alphabetical order."""
-    return sorted(set([server for name, _, server, _ in fleet.calls() if name == role]))
-
-
-def _accepting(plan, role, key):
-    """The numbers of the editions that accept a key in a role."""
-    return [number for number in range(len(plan)) if key in plan.contents_of(number).accepted(role)]
+    check_days(days, plan.contents_of(0).roles)
 
 
 def _ranges_of(plan, fleet, role, key):
     """The moments at which a key can be accepted in a role, as ranges in ascending order."""
     found = []
-    for number in _accepting(plan, role, key):
-        for kind in _server_kinds(fleet, role):
+    for number in accepting(contents_in(plan), role, key):
+        for kind in server_kinds(fleet, role):
             held = held_range(plan, fleet, kind, number)
             # They come in the order of their first moments, and only the last
             # one of those found so far can reach this one.
@@ -58,12 +43,12 @@ def accepted_ranges(plan, fleet, role, key):
 
 def late(plan, fleet, days):
     """The tuples (role, key, kind, edition) of keys that are accepted on or after their day, sorted."""
-    _check_days(plan, fleet, days)
+    _check(plan, fleet, days)
     found = []
     for role, key in sorted(set(days)):
         behind = Range(days[(role, key)], None)
-        for kind in _server_kinds(fleet, role):
-            for number in _accepting(plan, role, key):
+        for kind in server_kinds(fleet, role):
+            for number in accepting(contents_in(plan), role, key):
                 if held_range(plan, fleet, kind, number) & behind:
                     found.append((role, key, kind, number))
     return found
@@ -83,7 +68,7 @@ def late_run(plan, fleet, days, candidate):
 
 def outlived(plan, fleet, lives):
     """The tuples (role, key) of keys that are accepted longer than they may, sorted."""
-    _check_days(plan, fleet, lives)
+    _check(plan, fleet, lives)
     found = []
     for role, key in sorted(set(lives)):
         ranges = _ranges_of(plan, fleet, role, key)

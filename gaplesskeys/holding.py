@@ -1,7 +1,9 @@
 """What the services of a kind can hold, and what they can read straight behind it."""
 
 from gaplesskeys.checks import check_roles, is_moment
+from gaplesskeys.editions import contents_in
 from gaplesskeys.errors import InvalidMoment
+from gaplesskeys.faults import all_jumps, locked_out
 from gaplesskeys.showing import holding_machines, source_machines, source_number
 from gaplesskeys.timing import held_span, jump_pairs
 
@@ -34,12 +36,7 @@ def jumps(plan, fleet, kind):
 def lockouts(plan, fleet):
     """The jumps of all kinds at which the earlier contents do not take the later ones."""
     check_roles(plan.contents_of(0), fleet)
-    found = []
-    for kind in fleet.names():
-        for early, late in jump_pairs(plan.moments(), fleet.lateness(kind)):
-            if not plan.contents_of(early).takes(plan.contents_of(late)):
-                found.append((kind, early, late))
-    return found
+    return locked_out(contents_in(plan), all_jumps(fleet, plan.moments()))
 
 
 def held_run(plan, fleet, kind, number, moment):

@@ -4,7 +4,7 @@ from gaplesskeys.checks import is_index, is_moment, is_tuple_of
 from gaplesskeys.contents import Contents
 from gaplesskeys.errors import InvalidMoment, InvalidPlan, LimitExceeded, UnknownEdition
 
-_MOST_EDITIONS = 7
+MOST_EDITIONS = 7
 
 
 def _is_edition(value):
@@ -30,7 +30,7 @@ class Plan:
     # Each change puts a new list in the place of the old one. So an edition
     # that does not fit leaves no trace, and changed_by can go back.
     def __init__(self, editions):
-        if not isinstance(editions, list) or not 1 <= len(editions) <= _MOST_EDITIONS:
+        if not isinstance(editions, list) or not 1 <= len(editions) <= MOST_EDITIONS:
             raise InvalidPlan(None)
         wrong = _first_wrong(editions)
         if wrong is not None:
@@ -89,8 +89,8 @@ class Plan:
     def add(self, moment, contents):
         """Adds an edition behind the last one and returns its number."""
         number = len(self._editions)
-        if number == _MOST_EDITIONS:
-            raise LimitExceeded(_MOST_EDITIONS)
+        if number == MOST_EDITIONS:
+            raise LimitExceeded(MOST_EDITIONS)
         editions = [*self._editions, (moment, contents)]
         if _first_wrong(editions) is not None:
             raise InvalidPlan(number)

@@ -7,7 +7,7 @@ from gaplesskeys.fleets import LONGEST, MOST_CALLS, MOST_KINDS, Fleet, Kind
 from gaplesskeys.plans import Plan
 
 
-def _key_text(keys):
+def key_text(keys):
     """Keys in alphabetical order as a word."""
     return ",".join(keys) if keys else "-"
 
@@ -21,9 +21,9 @@ def format_contents(contents):
     """The line that describes contents."""
     uses = []
     for role in contents.roles:
-        uses.append(f"{role} {_key_text(contents.accepted(role))} {contents.used(role)}")
+        uses.append(f"{role} {key_text(contents.accepted(role))} {contents.used(role)}")
     roles = " / ".join(uses)
-    return f"{roles} | {_key_text(contents.vouchers)} {contents.needed} {_key_text(contents.signers)}"
+    return f"{roles} | {key_text(contents.vouchers)} {contents.needed} {key_text(contents.signers)}"
 
 
 def format_plan(plan):
