@@ -29,8 +29,8 @@ def _check_size(size):
 def core(plan, fleet, number, role):
     """The keys of a role that all accept straight behind an edition, in alphabetical order."""
     check_roles(plan.contents_of(0), fleet)
-    if role not in plan.contents_of(number).roles:
-        raise UnknownName(role)
+    # This raises if there is no such edition, or else if there is no such role.
+    plan.contents_of(number).used(role)
     return core_of(contents_in(plan)[:number + 1], fleet, plan.moments()[:number + 1], role)
 
 

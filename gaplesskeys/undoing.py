@@ -2,9 +2,8 @@
 
 from gaplesskeys.checks import check_roles
 from gaplesskeys.editions import check_later, contents_in, have_roles
-from gaplesskeys.errors import InvalidContents, LimitExceeded, UnknownEdition
+from gaplesskeys.errors import InvalidContents, UnknownEdition
 from gaplesskeys.faults import locked_out, newest_jumps, newest_meetings, refused, told_faults
-from gaplesskeys.plans import MOST_EDITIONS
 
 
 def _check_undone(plan, number):
@@ -59,8 +58,7 @@ def undone(plan, number, moment):
     """The plan in which an edition is taken back at a moment."""
     _check_undone(plan, number)
     check_later(plan, number, moment)
-    if number + 2 > MOST_EDITIONS:
-        raise LimitExceeded(MOST_EDITIONS)
     made = plan.cut(number)
+    # This raises if there would be too many editions.
     made.add(moment, plan.contents_of(number - 1))
     return made

@@ -118,3 +118,14 @@ NO_WORDS = [
 ]
 # Values that are no moments, and no numbers of anything.
 NO_MOMENTS = [*NO_INTEGERS, -1, -LAST, LAST + 1, 10 ** 41]
+# Values that are no contents, and no lists of one to seven contents with the same roles.
+NO_CONTENTS = [
+    *NO_INTEGERS, 0, 1, Contents, "app a a | - 0 -", Plan([(0, contents())]), Fleet(), Kind(gap=1), ({"app": (["a"], "a")}, []),
+    [contents()],
+]
+NO_CONTENTS_LISTS = [
+    *[value for value in NO_CONTENTS if value != [contents()]], contents(), [contents()] * 8, (contents(),),
+    {0: contents()}, [contents(), contents(role="web")], [contents()] * 6 + [contents(role="ap")],
+    [contents(), Contents({"app": (["a"], "a"), "web": (["a"], "a")}, [])], [[contents()]],
+    *[[value] for value in NO_CONTENTS], *[[contents(), value] for value in NO_CONTENTS],
+]

@@ -159,3 +159,62 @@ class Referee:
             return False
         self.answers.append(self.plan.contents_of(one).used(role) in self.plan.contents_of(two).accepted(role))
         return True
+
+
+class Line:
+    """Editions like those of a plan, but of any number and with any moments."""
+
+    def __init__(self, moments, items):
+        self.moments, self.items = list(moments), list(items)
+
+    def __len__(self):
+        return len(self.items)
+
+    def moment_of(self, number):
+        return self.moments[number]
+
+    def contents_of(self, number):
+        return self.items[number]
+
+
+def cut_line(plan, number, moment, contents):
+    """The editions of a plan until one, and behind it contents at a moment."""
+    numbers = range(number + 1)
+    return Line([*map(plan.moment_of, numbers), moment], [*map(plan.contents_of, numbers), contents])
+
+
+def faults_by_words(line, fleet):
+    """All refusals and lockouts by the words of [12] and [13]."""
+    many, found = len(line), []
+
+    def end(number, delay):
+        return line.moment_of(number + 1) + delay if number + 1 < many else float("inf")
+
+    for call, (role, client, server, life) in enumerate(fleet.calls()):
+        for i in range(many):
+            for j in range(many):
+                first = max(line.moment_of(i), line.moment_of(j))
+                if first <= end(i, fleet.lateness(client) - 2 + life) and first <= end(j, fleet.lateness(server) - 2):
+                    if line.contents_of(i).used(role) not in line.contents_of(j).accepted(role):
+                        found.append(("call", call, i, j))
+    for kind in fleet.names():
+        for j in range(many):
+            for i in range(j):
+                if line.moment_of(j) <= end(i, fleet.lateness(kind) - 1) and not takes(line, i, j):
+                    found.append(("jump", kind, i, j))
+    return sorted(found)
+
+
+def faults_of(possible, fleet):
+    """All refusals and lockouts in the runs of a model."""
+    plan, found = possible.plan, [("jump", *fault) for fault in lockouts_of(possible)]
+    for number, call in enumerate(fleet.calls()):
+        for i, j in meetings_of(possible, call):
+            if plan.contents_of(i).used(call[0]) not in plan.contents_of(j).accepted(call[0]):
+                found.append(("call", number, i, j))
+    return sorted(found)
+
+
+def with_newest(faults, newest):
+    """Those faults in which the newest edition takes part."""
+    return [fault for fault in faults if newest in fault[2:]]
