@@ -34,7 +34,7 @@ def _lead_on(first, second, fleet, undoable):
 
 def get_along(first, last, fleet, *, undoable=False):
     """Whether two contents can follow each other in this order without a fault."""
-    _check(first, last, [], fleet)
+    # The rules for the two raise what is wrong with them.
     return _lead_on(first, last, fleet, undoable)
 
 

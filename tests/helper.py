@@ -105,6 +105,26 @@ def small_fleet(random, most=3, roles=("app",)):
     return fleet
 
 
+def near_contents(source, many):
+    """Some contents each of which differs little from the one ahead."""
+    accepted, used, vouchers, signers = ["a"], "a", ["v"], ["v"]
+    found = []
+    for _ in range(many):
+        found.append(contents(accepted, used, vouchers, 1, signers))
+        step = source.randrange(6)
+        if step <= 1:
+            accepted = sorted({*accepted, source.choice("abc")})
+        elif step == 2:
+            used = source.choice(accepted)
+        elif step == 3:
+            accepted = [used]
+        elif step == 4:
+            vouchers = source.choice([["v"], ["w"], ["v", "w"]])
+        else:
+            signers = [source.choice(vouchers)]
+    return found
+
+
 # Values that are no integers of at most sixty digits, or not what a word is.
 NO_INTEGERS = [
     True, False, None, "", "1", "a", b"1", 1.0, float("nan"), (), (1,), [], [1],

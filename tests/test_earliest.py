@@ -12,8 +12,8 @@ from gaplesskeys.errors import InvalidContents, InvalidDays, InvalidMoment, Inva
 from gaplesskeys.fleets import Fleet, Kind
 from gaplesskeys.plans import Plan
 from tests.helper import (
-    LAST, LONGEST, NO_CONTENTS_LISTS, NO_INTEGERS, NO_MOMENTS, NO_WORDS, contents, fleet_of, small_contents, small_fleet,
-    told_error,
+    LAST, LONGEST, NO_CONTENTS_LISTS, NO_INTEGERS, NO_MOMENTS, NO_WORDS, contents, fleet_of, near_contents,
+    small_contents, small_fleet, told_error,
 )
 
 FUNCTIONS = [rules, earliest, latest, find_ring]
@@ -341,26 +341,6 @@ class Moments(Case):
         if all(bound is not None and bound < 14 for bound in most):
             self.assertEqual(most, [max(column) for column in zip(*fitting)])
         return 1
-
-
-def near_contents(source, many):
-    """Some contents each of which differs little from the one ahead."""
-    accepted, used, vouchers, signers = ["a"], "a", ["v"], ["v"]
-    found = []
-    for _ in range(many):
-        found.append(contents(accepted, used, vouchers, 1, signers))
-        step = source.randrange(6)
-        if step <= 1:
-            accepted = sorted({*accepted, source.choice("abc")})
-        elif step == 2:
-            used = source.choice(accepted)
-        elif step == 3:
-            accepted = [used]
-        elif step == 4:
-            vouchers = source.choice([["v"], ["w"], ["v", "w"]])
-        else:
-            signers = [source.choice(vouchers)]
-    return found
 
 
 class Rings(Case):

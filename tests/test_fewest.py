@@ -240,6 +240,9 @@ class Paths(unittest.TestCase):
         self.assertEqual(fewest(one, two, [three, four], FLEET), [one, two])
         self.assertEqual(fewest(one, two, [three, four], FLEET, undoable=True), [one, four, two])
         self.assertIsNone(fewest(one, two, [three], FLEET, undoable=True))
+        self.assertEqual(labels(one, two, [three, four], FLEET), [0, 1, 1, 1])
+        self.assertEqual(labels(one, two, [three, four], FLEET, undoable=True), [0, 1, 1, 2])
+        self.assertEqual(labels(one, two, [three], FLEET, undoable=True), [0, 1, None])
 
     def test_allowed(self):
         seen = []
@@ -375,7 +378,7 @@ class Accepted(unittest.TestCase):
 
     def test_any_other_value(self):
         for value in [*NO_INTEGERS, [], [0], [0, 2, 1], [0, 2, 1, 3, 4], (0, 2, 1, 3), {0: 0}, {0, 2, 1, 3}, "0213",
-                      [0, 2, True, 3], [False, 2, 1, 3], [0, 2.0, 1, 3], [0, -2, 1, 3], [0, 2, 1, -3], [0, 2, 1, "3"],
+                      [0, 2, True, 3], [False, 2, 1, 3], [0, 2.0, 1, 3], [0, -1, 1, 3], [0, 2, 1, -1], [0, -2, 1, 3], [0, 2, 1, -3], [0, 2, 1, "3"],
                       [0, 2, [1], 3], [0, 2, 1, float("nan")]]:
             self.assertIs(are_labels(C0, C3, [C2, C1], FLEET, value), False)
         self.assertIs(are_labels(C0, C1, [], FLEET, [0, True]), False)

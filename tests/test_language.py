@@ -77,6 +77,8 @@ def is_plain(node):
         return node.func.id in ["len", "int", "ord", "str", "set", "range"]
     if isinstance(node, ast.ListComp):
         return is_plain(node.elt)
+    if isinstance(node, ast.BinOp):
+        return is_plain(node.left) and is_plain(node.right)
     if isinstance(node, ast.Constant):
         return isinstance(node.value, (int, str))
     return False
