@@ -24,7 +24,7 @@ def _last_unreported(reports, least, most):
     """The greatest moment from the least to the most that is not reported, or None."""
     # Each step passes a report, so that these are few.
     moment = most
-    while moment >= least and moment in reports:
+    while moment in reports:
         moment = moment - 1
     return moment if moment >= least else None
 

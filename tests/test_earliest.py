@@ -65,6 +65,17 @@ def expected_rules(items, fleet, start=0, days=None, lives=None):
     return sorted(rule for rule in found if rule[0] != rule[1] or rule[2] > 0)
 
 
+def hold_together(found):
+    """Whether some moments satisfy rules: no way around has a positive sum."""
+    numbers = sorted({number for *pair, _ in found for number in pair})
+    waits = {(one, two): -float("inf") for one in numbers for two in numbers}
+    for later, earlier, wait in found:
+        waits[later, earlier] = max(waits[later, earlier], wait)
+    for middle, one, two in itertools.product(numbers, repeat=3):
+        waits[one, two] = max(waits[one, two], waits[one, middle] + waits[middle, two])
+    return all(waits[number, number] <= 0 for number in numbers)
+
+
 class Case(unittest.TestCase):
     def assert_ring(self, ring, found):
         self.assertIs(type(ring), list)
@@ -300,6 +311,25 @@ class Moments(Case):
             call()
         self.assertEqual([items, days], [CHANGE, {APP_A: 12}])
 
+    def test_one_moment_less_or_more_is_too_much(self):
+        source, many = random.Random(9), [0, 0]
+        for _ in range(400):
+            fleet, items = small_fleet(source), near_contents(source, source.randint(1, 7))
+            named = {"start": source.randint(0, 3)}
+            for name in ["days", "lives"]:
+                named[name] = {("app", source.choice("abc")): source.randint(10, 60) for _ in range(source.randint(0, 2))}
+            found, least, most = rules(items, fleet, **named), earliest(items, fleet, **named), latest(items, fleet, **named)
+            self.assertIs(hold_together(found), least is not None)
+            self.assertIs(most is None, least is None)
+            for number in range(len(items)) if least is not None else []:
+                low, high = least[number], most[number]
+                self.assertTrue(hold_together([*found, (-1, number, -low)]))
+                self.assertFalse(hold_together([*found, (-1, number, 1 - low)]))
+                self.assertTrue(hold_together([*found, (number, -1, 10 ** 9 if high is None else high)]))
+                self.assertIs(hold_together([*found, (number, -1, 10 ** 9 if high is None else high + 1)]), high is None)
+                many[high is None] += 1
+        self.assertGreater(min(many), 200)
+
     def test_against_all_moments(self):
         source, many = random.Random(3), 0
         for _ in range(250):
@@ -334,10 +364,7 @@ class Moments(Case):
         self.assertIsNone(ring)
         self.assertEqual(least, [min(column) for column in zip(*fitting)])
         for bound, column in zip(most, zip(*fitting)):
-            if bound is None or bound >= 14:
-                self.assertGreaterEqual(max(column), 14 - len(items) - 1 if bound is None else 0)
-            else:
-                self.assertLessEqual(max(column), bound)
+            self.assertTrue(bound is None or max(column) <= bound)
         if all(bound is not None and bound < 14 for bound in most):
             self.assertEqual(most, [max(column) for column in zip(*fitting)])
         return 1

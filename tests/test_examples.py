@@ -1,7 +1,10 @@
-"""The examples of the document, word by word."""
+"""The examples of the document, word by word, and those of README.md."""
 
+import doctest
+import pathlib
 import unittest
 
+README = pathlib.Path(__file__).resolve().parent.parent / "README.md"
 EXAMPLES = r"""
 >>> from gaplesskeys.ranges import Range
 >>> str(Range(3, 9) & (Range(0, 4) + 2))
@@ -223,3 +226,11 @@ class Examples(unittest.TestCase):
             *rows, expected = example.split("\n")
             self.assertTrue(all(row.startswith(">>> ") for row in rows))
             self.assertEqual(outcome([row[4:] for row in rows]), expected, example)
+
+    def test_those_of_the_readme(self):
+        text = README.read_text().replace("```\n", "\n")
+        test = doctest.DocTestParser().get_doctest(text, {}, "README", str(README), 0)
+        runner = doctest.DocTestRunner(verbose=False)
+        runner.run(test, out=lambda _: None)
+        self.assertEqual(runner.summarize(verbose=False).failed, 0)
+        self.assertGreater(len(test.examples), 50)

@@ -2,6 +2,7 @@
 
 import itertools
 import random
+import re
 import unittest
 
 from gaplesskeys.contents import Contents
@@ -17,11 +18,11 @@ from tests.helper import (
 from tests.live_model import faults_between, services_of
 from tests.model import Line
 from tests.test_live import next_contents, some_services
+from tests.test_texts import NUMBER, changed, is_contents_line
 
 C0, C1, C2, C3 = [contents(*keys, vouchers="v", needed=1) for keys in ["a", ("ab", "a"), ("ab", "b"), "b"]]
 TWO = Contents({"app": (["a"], "a"), "web": (["a"], "a")}, [], needed=0)
 TEXT = "begin 0 3 app a a | v 1 v\ndone 0 4\nbegin 1 6 app a,b a | v 1 v\ndone 1 6\nbegin 2 7 app a,b b | v 1 v\n"
-CHARACTERS = [" ", "\n", "\t", "-", ",", "/", "|", "0", "1", "2", "7", "9", "a", "b", "v", "z", "A", "_", "+", "."]
 
 
 def state(book):
@@ -39,6 +40,44 @@ def written(many, pending=False):
     if pending:
         book.begin(3 * many, C1)
     return book
+
+
+def wrong_journal_line(text):
+    """The number of the first wrong line of a journal by the words of [27], or None."""
+    begun, done, roles = [], [-1], None
+    for number, line in enumerate(text.split("\n")[:-1]):
+        found = re.fullmatch(f"(begin|done) ({NUMBER}) ({NUMBER})(?: (.*))?", line, re.DOTALL)
+        if not found or len(found[3]) > 60 or int(found[3]) > LAST:
+            return number
+        word, told, moment, rest = found[1], found[2], int(found[3]), found[4]
+        is_pending = len(begun) == len(done)
+        if told != str(len(begun) - is_pending) or (word == "done") != is_pending or (rest is None) != is_pending:
+            return number
+        if is_pending:
+            if moment < begun[-1]:
+                return number
+            done.append(moment)
+            continue
+        if len(begun) == 7 or moment <= done[-1] or not is_contents_line(rest):
+            return number
+        names = [use.split(" ")[0] for use in rest.split(" | ")[0].split(" / ")]
+        if roles not in (None, names):
+            return number
+        begun.append(moment)
+        roles = names
+    return None
+
+
+def rewritten(book):
+    """A journal on which the same is called that the lines of one tell."""
+    again = Journal()
+    for line in book.text.split("\n")[:-1]:
+        word, number, moment, *_ = line.split(" ")
+        if word == "begin":
+            again.begin(int(moment), book.entry(int(number)))
+        else:
+            again.done(int(moment))
+    return again
 
 
 class Writing(unittest.TestCase):
@@ -185,6 +224,7 @@ class Recovering(unittest.TestCase):
             "begin 3 9 app a a | v 1 v", "plan", "done 2 9;", "done 2 \u0669",
         ]:
             self.assertEqual(told_error(Journal.recovered, TEXT + line + "\n"), (ParseError, 5), line)
+            self.assertEqual(wrong_journal_line(TEXT + line + "\n"), 5, line)
         for moment in [7, 8, LAST]:
             self.assertEqual(Journal.recovered(TEXT + f"done 2 {moment}\n").plan().moments(), [4, 6, moment])
         done = TEXT + "done 2 9\n"
@@ -198,6 +238,7 @@ class Recovering(unittest.TestCase):
             "begin 3 " + "1" * 61 + " app a a | v 1 v", "begin 3 " + "9" * 5000 + " app a a | v 1 v",
         ]:
             self.assertEqual(told_error(Journal.recovered, done + line + "\n"), (ParseError, 6), line)
+            self.assertEqual(wrong_journal_line(done + line + "\n"), 6, line)
         self.assertEqual(Journal.recovered(done + "begin 3 10 app a a | v 1 v\n").pending, 3)
 
     def test_the_first_wrong_line(self):
@@ -220,38 +261,16 @@ class Recovering(unittest.TestCase):
         self.assertEqual(told_error(Journal.recovered, text + "begin 7 99 app a a | v 1 v\n"), (ParseError, 14))
         self.assertEqual(Journal.recovered(text + "begin 7 99 app a a | v 1 v").text, text)
 
-    def test_all_that_is_accepted_is_what_is_written(self):
-        # One sign more, less or exchanged, anywhere.
-        whole = TEXT + "done 2 9\n"
-        for at in range(len(whole)):
-            changes = [whole[:at] + whole[at + 1:], *[whole[:at] + sign + whole[at + 1:] for sign in CHARACTERS],
-                       *[whole[:at] + sign + whole[at:] for sign in CHARACTERS]]
-            for text in changes:
-                error = raised(Journal.recovered, text)
-                if error is not None:
-                    self.assertIs(type(error), ParseError)
-                    self.assertEqual(self.first_wrong(text), error.line)
+    def test_texts_with_one_sign_changed(self):
+        for whole in [TEXT + "done 2 9\n", TEXT, "begin 0 9 app a a / b c d | v 1 v\ndone 0 10\nbegin 1 19 app - a / b a a | - 0 -\n"]:
+            for text in changed(whole):
+                line = wrong_journal_line(text)
+                if line is not None:
+                    self.assertEqual(told_error(Journal.recovered, text), (ParseError, line), text)
                     continue
-                self.assertIsNone(self.first_wrong(text))
-                book, again = Journal.recovered(text), Journal()
+                book = Journal.recovered(text)
                 self.assertEqual(book.text, text[:text.rfind("\n") + 1])
-                plan = book.plan()
-                moments = [int(line.split(" ")[2]) for line in book.text.split("\n")[:-1]]
-                for number in range(len(moments) // 2):
-                    again.begin(moments[2 * number], book.entry(number))
-                    again.done(moments[2 * number + 1])
-                    self.assertEqual(plan[number], (moments[2 * number + 1], book.entry(number)))
-                if len(moments) % 2:
-                    again.begin(moments[-1], book.entry(len(moments) // 2))
-                self.assertEqual(state(again), state(book))
-
-    def first_wrong(self, text):
-        """The number of the first line up to which a text is no journal."""
-        lines = text.split("\n")[:-1]
-        for many in range(1, len(lines) + 1):
-            if told_error(Journal.recovered, "\n".join([*lines[:many], ""])) is not None:
-                return many - 1
-        return None
+                self.assertEqual(state(rewritten(book)), state(book))
 
 
 class Falls(unittest.TestCase):

@@ -437,6 +437,15 @@ class Ready(unittest.TestCase):
                  for moment in [1 + late - 2 + LONGEST - 1, LAST]]
         self.assertEqual([unready(plan, fleet, 1) for plan in plans], [None, None])
 
+    def test_moments_that_cannot_be_given(self):
+        plan = plan_of((LAST - 1, contents("ab", vouchers="vw", needed=1)), (LAST, contents("ac", vouchers="vw", needed=1)))
+        self.assertEqual(unready(plan, FLEET, 1), (1, ["a"]))
+        plan = plan_of(*[(LAST - 6 + n, contents("ab", vouchers="vw", needed=1)) for n in range(7)])
+        self.assertEqual([unready(plan, FLEET, size) for size in [1, 2]], [None, (0, ["a", "b"])])
+        plan[6] = (LAST, contents("ab", vouchers="vw", needed=3))
+        self.assertEqual(unready(plan, FLEET, 2), (0, ["a", "b"]))
+        self.assertEqual(unready(plan, FLEET, 1), (6, []))
+
     def test_by_words(self):
         source, many = random.Random(23), [0, 0]
         for turn in range(400):
