@@ -1,5 +1,6 @@
 """The examples of the document, word by word, and those of README.md."""
 
+import builtins
 import doctest
 import pathlib
 import unittest
@@ -231,6 +232,8 @@ class Examples(unittest.TestCase):
         text = README.read_text().replace("```\n", "\n")
         test = doctest.DocTestParser().get_doctest(text, {}, "README", str(README), 0)
         runner = doctest.DocTestRunner(verbose=False)
+        # Showing a value leaves it among the builtins.
+        self.addCleanup(vars(builtins).pop, "_", None)
         runner.run(test, out=lambda _: None)
         self.assertEqual(runner.summarize(verbose=False).failed, 0)
         self.assertGreater(len(test.examples), 50)
