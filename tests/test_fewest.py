@@ -11,7 +11,9 @@ from gaplesskeys.errors import InvalidContents, InvalidKeys, UnknownName
 from gaplesskeys.fewest import KeyLimit, are_labels, fewest, get_along, labels
 from gaplesskeys.fleets import Fleet
 from gaplesskeys.undoing import is_undoable
-from tests.helper import NO_CONTENTS, NO_INTEGERS, contents, fleet_of, raised, small_contents, small_fleet, told_error
+from tests.helper import (
+    LONGEST, NO_CONTENTS, NO_INTEGERS, contents, fleet_of, raised, small_contents, small_fleet, told_error,
+)
 
 C0, C1, C2, C3 = [contents(*keys, vouchers="v", needed=1) for keys in ["a", ("ab", "a"), ("ab", "b"), "b"]]
 FLEET = fleet_of([("app", "k", "k", 2)], k=(3, None, None))
@@ -158,6 +160,12 @@ class GetAlong(unittest.TestCase):
             self.assertIs(get_along(one, two, FLEET, undoable=value), False)
         for value in [0, "", [], None]:
             self.assertIs(get_along(one, two, FLEET, undoable=value), True)
+
+    def test_great_numbers(self):
+        fleet = fleet_of([("app", "k", "k", LONGEST)], k=(LONGEST, LONGEST, None))
+        self.assertEqual([get_along(C0, other, fleet) for other in [C0, C1, C2, C3]], [True, True, False, False])
+        fleet = fleet_of([("app", "k", "k", LONGEST)], k=(1, None, None))
+        self.assertEqual([get_along(C0, other, fleet) for other in [C0, C1, C2, C3]], [True, True, True, False])
 
     def test_by_words(self):
         source, many = random.Random(1), [0, 0]

@@ -108,7 +108,8 @@ def later_results(moments, turn):
                 found += [outcome(harms, plan, fleet, number, keys, moment), exposure(plan, fleet, number, keys, moment)]
     for undoable in [False, True]:
         found += [shown(call(items[0], items[2], items, fleet, undoable=undoable)) for call in [fewest, labels]]
-    return found
+    # What was given has not changed.
+    return [*found, plan == made_plan(moments, turn), fleet == made_fleet(turn)]
 
 
 def live_results(turn):
@@ -131,7 +132,9 @@ class Orders(unittest.TestCase):
     def test_the_same_results(self):
         for moments in [(0, 1, 2, 3), (0, 1, 3, 7), (2, 9, 17, 30), (0, 100, 200, 300)]:
             self.assertEqual(results(moments, False), results(moments, True))
-            self.assertEqual(later_results(moments, False), later_results(moments, True))
+            found = later_results(moments, True)
+            self.assertEqual(later_results(moments, False), found)
+            self.assertEqual(found[-2:], [True, True])
         self.assertEqual(live_results(False), live_results(True))
 
     def test_there_is_something_to_order(self):
